@@ -93,6 +93,21 @@ func eachSplit(l impl.Layout, visit func(impl.Layout)) {
 	}
 }
 
+// everySmallLayout calls back for each layout of up to three panes on small screens; what visit refuses is not split any further.
+func everySmallLayout(visit func(impl.Layout) bool) {
+	for wide := int64(1); wide <= 6; wide++ {
+		for high := int64(1); high <= 6; high++ {
+			single := layoutOf(wide, high, paneNode(0))
+			visit(single)
+			eachSplit(single, func(two impl.Layout) {
+				if visit(two) {
+					eachSplit(two, func(three impl.Layout) { visit(three) })
+				}
+			})
+		}
+	}
+}
+
 // Those of the layouts that the document forbids have the fault, and the others keep the promise.
 func TestP7EveryLayoutOfUpToThreePanes(t *testing.T) {
 	kept := 0
@@ -105,17 +120,7 @@ func TestP7EveryLayoutOfUpToThreePanes(t *testing.T) {
 		checkP7(t, l)
 		return true
 	}
-	for wide := int64(1); wide <= 6; wide++ {
-		for high := int64(1); high <= 6; high++ {
-			single := layoutOf(wide, high, paneNode(0))
-			check(single)
-			eachSplit(single, func(two impl.Layout) {
-				if check(two) {
-					eachSplit(two, func(three impl.Layout) { check(three) })
-				}
-			})
-		}
-	}
+	everySmallLayout(check)
 	if kept < 1000 {
 		t.Errorf("only %d layouts", kept)
 	}
